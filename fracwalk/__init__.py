@@ -1,0 +1,1 @@
+"""Fracwalk: machines that move a fraction, and what they can ever reach."""

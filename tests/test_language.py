@@ -1,0 +1,143 @@
+"""The rules of the language that a look at the files' text and syntax can tell."""
+
+import ast
+import builtins
+import pathlib
+import unittest
+
+PACKAGE = pathlib.Path(__file__).resolve().parent.parent / "fracwalk"
+
+LIBRARY = {
+    "heapq": {"heappush", "heappop", "heapify", "heapreplace", "heappushpop"},
+    "math": {"gcd", "lcm", "isqrt", "comb", "perm", "factorial"},
+    "itertools": {
+        "product", "combinations", "permutations", "chain", "accumulate", "pairwise", "islice", "zip_longest",
+    },
+    "collections": {"defaultdict", "deque"},
+    "__future__": {"annotations"},
+}
+
+BUILTINS = set(
+    "len range enumerate zip min max sum abs sorted reversed int str bool bytes list tuple dict set isinstance ord "
+    "repr any all divmod pow getattr hasattr setattr type iter next map super property staticmethod classmethod "
+    "object float Exception ValueError TypeError KeyError IndexError LookupError ZeroDivisionError ArithmeticError "
+    "OverflowError RuntimeError NotImplementedError AttributeError StopIteration NotImplemented".split()
+)
+
+METHODS = set(
+    "append clear copy count endswith extend find get index insert isalnum isalpha isdigit islower isspace isupper "
+    "items join keys ljust lower lstrip partition pop remove replace reverse rfind rjust rpartition rsplit rstrip "
+    "setdefault split splitlines startswith strip update upper values zfill bit_length title capitalize swapcase "
+    "casefold center expandtabs removeprefix removesuffix rindex isascii isdecimal isnumeric istitle isidentifier "
+    "isprintable translate sort format add discard appendleft popleft extendleft rotate from_iterable".split()
+)
+
+STATEMENTS = (
+    ast.FunctionDef, ast.ClassDef, ast.Return, ast.Delete, ast.Assign, ast.AugAssign, ast.AnnAssign, ast.For,
+    ast.While, ast.If, ast.With, ast.Match, ast.Raise, ast.Try, ast.Assert, ast.ImportFrom, ast.Global,
+    ast.Nonlocal, ast.Expr, ast.Pass, ast.Break, ast.Continue,
+)
+
+
+def files():
+    return sorted(path for path in PACKAGE.rglob("*") if path.is_file() and "__pycache__" not in path.parts)
+
+
+def trees():
+    return [(path.name, ast.parse(path.read_text(encoding="utf-8"))) for path in files()]
+
+
+class Language(unittest.TestCase):
+    def test_files(self):
+        for path in files():
+            self.assertEqual(path.suffix, ".py", path)
+            self.assertEqual(path.name, path.name.lower())
+            self.assertNotRegex(path.stem, "^(test|law_|conftest|site)")
+        self.assertTrue((PACKAGE / "__init__.py").is_file())
+
+    def test_sizes_and_characters(self):
+        for path in files():
+            text = path.read_text(encoding="utf-8")
+            lines = text.split("\n")
+            self.assertLessEqual(len(lines), 400, path)
+            for at, line in enumerate(lines, 1):
+                where = f"{path.name}:{at}"
+                self.assertLessEqual(len(line), 120, where)
+                self.assertTrue(all(" " <= sign <= "~" for sign in line), where)
+
+    def test_functions_have_at_most_40_lines(self):
+        for name, tree in trees():
+            for node in ast.walk(tree):
+                if isinstance(node, ast.FunctionDef):
+                    self.assertLessEqual(node.end_lineno - node.lineno + 1, 40, f"{name} {node.name}")
+
+    def test_imports(self):
+        for name, tree in trees():
+            for node in ast.walk(tree):
+                self.assertNotIsInstance(node, ast.Import, name)
+                if isinstance(node, ast.ImportFrom):
+                    self.assertIn(node, tree.body, name)
+                    self.assertEqual(node.level, 0, name)
+                    words = {alias.name for alias in node.names}
+                    if node.module in LIBRARY:
+                        self.assertLessEqual(words, LIBRARY[node.module], name)
+                    else:
+                        self.assertRegex(node.module, "^fracwalk[.]", name)
+                        self.assertNotIn("*", words, name)
+
+    def test_statements(self):
+        for name, tree in trees():
+            for node in ast.walk(tree):
+                if isinstance(node, ast.stmt):
+                    self.assertIsInstance(node, STATEMENTS, f"{name}:{node.lineno}")
+
+    def test_module_level_binds_each_name_once(self):
+        for name, tree in trees():
+            bound = []
+            for node in tree.body:
+                if isinstance(node, ast.ImportFrom):
+                    bound.extend(alias.asname or alias.name for alias in node.names)
+                elif isinstance(node, (ast.FunctionDef, ast.ClassDef)):
+                    bound.append(node.name)
+                elif isinstance(node, ast.Assign):
+                    bound.extend(target.id for target in node.targets)
+                else:
+                    self.assertIsInstance(node.value, ast.Constant, f"{name}:{node.lineno}")
+            self.assertEqual(len(bound), len(set(bound)), name)
+
+    def test_names(self):
+        every_builtin = set(dir(builtins)) - {"_"}  # doctest may have left that one there
+        for name, tree in trees():
+            for node in ast.walk(tree):
+                where = f"{name}:{getattr(node, 'lineno', 0)}"
+                if isinstance(node, ast.Name):
+                    self.assertFalse(node.id in every_builtin and node.id not in BUILTINS, where)
+                    if isinstance(node.ctx, ast.Store):
+                        self.assertNotIn(node.id, every_builtin, where)
+                elif isinstance(node, (ast.arg, ast.FunctionDef)):
+                    bound = node.arg if isinstance(node, ast.arg) else node.name
+                    if isinstance(node, ast.arg) or node in tree.body:
+                        self.assertNotIn(bound, every_builtin, where)
+
+    def test_methods(self):
+        own = {
+            node.name for _, tree in trees() for node in ast.walk(tree) if isinstance(node, ast.FunctionDef)
+        }
+        for name, tree in trees():
+            for node in ast.walk(tree):
+                if isinstance(node, ast.Call) and isinstance(node.func, ast.Attribute):
+                    self.assertIn(node.func.attr, METHODS | own, f"{name}:{node.lineno}")
+
+    def test_values(self):
+        for name, tree in trees():
+            for node in ast.walk(tree):
+                where = f"{name}:{getattr(node, 'lineno', 0)}"
+                self.assertNotIsInstance(node, ast.Div, where)
+                if isinstance(node, ast.Constant):
+                    self.assertNotIsInstance(node.value, (float, complex), where)
+                    if isinstance(node.value, str):
+                        self.assertNotIn("%", node.value, where)
+
+
+if __name__ == "__main__":
+    unittest.main()
