@@ -3,6 +3,7 @@
 from fracwalk.errors import LimitExceeded, NotAWord, NotReduced
 from fracwalk.moves import IDENTITY, INFINITY, act, in_form, product
 
+KINDS = ("", "s", "r", "R")
 LETTER_MOVES = {"s": (0, 1, -1, 0), "r": (0, 1, -1, -1), "R": (1, 1, -1, 0)}
 LETTER_PRODUCTS = {"ss": "", "rr": "R", "RR": "r", "rR": "", "Rr": ""}
 LETTER_INVERSES = {"s": "s", "r": "R", "R": "r"}

@@ -128,6 +128,50 @@ class Language(unittest.TestCase):
                 if isinstance(node, ast.Call) and isinstance(node.func, ast.Attribute):
                     self.assertIn(node.func.attr, METHODS | own, f"{name}:{node.lineno}")
 
+    def test_what_a_class_that_compares_rules_out(self):
+        # Machine has __eq__ and __len__: no generator expressions, no sort of a list, no try of Python's errors.
+        for name, tree in trees():
+            for node in ast.walk(tree):
+                where = f"{name}:{getattr(node, 'lineno', 0)}"
+                self.assertNotIsInstance(node, ast.GeneratorExp, where)
+                self.assertFalse(isinstance(node, ast.Attribute) and node.attr == "sort", where)
+                if isinstance(node, ast.ExceptHandler):
+                    caught = {word.id for word in ast.walk(node.type) if isinstance(word, ast.Name)}
+                    self.assertFalse(caught & {"ValueError", "LookupError", "IndexError"}, where)
+
+    def test_is_stands_beside_none_and_booleans(self):
+        for name, tree in trees():
+            for node in ast.walk(tree):
+                if isinstance(node, ast.Compare):
+                    for sign, other in zip(node.ops, node.comparators):
+                        if isinstance(sign, (ast.Is, ast.IsNot)):
+                            self.assertIsInstance(other, ast.Constant, f"{name}:{node.lineno}")
+
+    def test_attributes(self):
+        barred = set(
+            "items keys values pop update append clear extend insert remove reverse setdefault sort args encode decode "
+            "hex fromhex format mro register elements open input law".split()
+        )
+        for name, tree in trees():
+            for node in ast.walk(tree):
+                if isinstance(node, ast.Attribute) and isinstance(node.ctx, ast.Store):
+                    self.assertNotIn(node.attr, barred, f"{name}:{node.lineno}")
+
+    def test_no_file_imports_from_one_that_imports_it(self):
+        imports = {
+            name.removesuffix(".py"): {
+                node.module.removeprefix("fracwalk.")
+                for node in tree.body
+                if isinstance(node, ast.ImportFrom) and node.module.startswith("fracwalk.")
+            }
+            for name, tree in trees()
+        }
+        while imports:
+            free = [name for name, others in imports.items() if not others & set(imports)]
+            self.assertTrue(free, imports)
+            for name in free:
+                del imports[name]
+
     def test_values(self):
         for name, tree in trees():
             for node in ast.walk(tree):
