@@ -1,19 +1,19 @@
 """Derivations: short proofs that there is a route with a word, and the routes that they stand for."""
 
 from fracwalk.errors import LimitExceeded
-from fracwalk.moves import is_integer, is_row_of_integers
+from fracwalk.moves import is_integer, is_row_of_integers, is_tuple_of
 from fracwalk.tables import is_state
 from fracwalk.words import KINDS, multiply_kinds
 
 
 def derivation_cost(derivation, system, word, state):
     """Return the cost of a derivation of a word from the start to a state, or None for any other value."""
-    if not isinstance(derivation, tuple) or len(derivation) != 2:
+    if not is_tuple_of(derivation, 2):
         return None
     items, ends = derivation
     if not isinstance(items, tuple) or not isinstance(ends, tuple):
         return None
-    costs = _costs_of_items(items, system)
+    costs = costs_of_items(items, system)
     if costs is None or not _ends_fit(items, ends, system.start, word, state):
         return None
     return sum([costs[end] for end in ends])
@@ -43,7 +43,7 @@ def write_route(derivation, system, *, limit):
     return tuple(route)
 
 
-def _costs_of_items(items, system):
+def costs_of_items(items, system):
     """Return the list of the items' costs, or None if one of them is not right."""
     states = {state: True for state in system.states}
     steps = {step[4:]: step[:4] for step in system.steps}
@@ -58,9 +58,30 @@ def _costs_of_items(items, system):
     return costs
 
 
+def kinds_along(word):
+    """Return the kinds of the items that read a word, in order."""
+    return list(word) if word != "" else [""]
+
+
+def needed_part(items, ends):
+    """Return the derivation with these ends and with no other items than they need."""
+    needed = {}
+    waiting = list(ends)
+    while waiting:
+        index = waiting.pop()
+        if index not in needed:
+            needed[index] = True
+            how = items[index][3]
+            if how[0] == "join":
+                waiting.extend(how[1:])
+    kept = sorted(needed)
+    moved = {index: at for at, index in enumerate(kept)}
+    return (tuple([_item_moved(items[index], moved) for index in kept]), tuple([moved[end] for end in ends]))
+
+
 def _is_item_between(item, states):
     """Tell whether any value is a tuple (kind, state, state, how), whatever how is."""
-    if not isinstance(item, tuple) or len(item) != 4:
+    if not is_tuple_of(item, 4):
         return False
     kind, p, q, _ = item
     return kind in KINDS and is_state(p, states) and is_state(q, states)
@@ -71,7 +92,7 @@ def _cost_of_item(item, items, costs, steps):
     kind, p, q, how = item
     if how == ("stay",):
         return 0 if kind == "" and p == q else None
-    if not isinstance(how, tuple) or len(how) != 3 or not is_row_of_integers(how[1:], 2):
+    if not is_tuple_of(how, 3) or not is_row_of_integers(how[1:], 2):
         return None
     if how[0] == "step":
         return _cost_of_step(item, steps.get(how[1:]))
@@ -103,7 +124,7 @@ def _cost_of_join(item, items, costs):
 
 def _ends_fit(items, ends, start, word, state):
     """Tell whether the ends lead along the letters of the word from the start to the state."""
-    kinds = list(word) if word != "" else [""]
+    kinds = kinds_along(word)
     if len(ends) != len(kinds):
         return False
     at = start
@@ -112,6 +133,14 @@ def _ends_fit(items, ends, start, word, state):
             return False
         at = items[end][2]
     return at == state
+
+
+def _item_moved(item, moved):
+    """Return an item whose parts stand at other indices."""
+    kind, p, q, how = item
+    if how[0] != "join":
+        return item
+    return (kind, p, q, ("join", moved[how[1]], moved[how[2]]))
 
 
 def _edge_counts(items):

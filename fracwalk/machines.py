@@ -46,8 +46,8 @@ class Machine:
 
     def add_edge(self, start, end, word, cost):
         """Add an edge and return its number."""
-        self._require_place(start)
-        self._require_place(end)
+        self.require_place(start)
+        self.require_place(end)
         require_word(word)
         if len(word) > MOST_LETTERS:
             raise LimitExceeded(MOST_LETTERS)
@@ -69,15 +69,19 @@ class Machine:
 
     def reroute_edge(self, number, start, end):
         """Let an edge begin and end at other places."""
-        self._require_edge(number)
-        self._require_place(start)
-        self._require_place(end)
-        word, cost = self._edges[number][2:]
+        word, cost = self.edge(number)[2:]
+        self.require_place(start)
+        self.require_place(end)
         self._edges[number] = (start, end, word, cost)
 
     def edges(self):
         """Return a dict from the numbers, ascending, to tuples (start, end, word, cost)."""
         return {number: self._edges[number] for number in self._edges}
+
+    def edge(self, number):
+        """Return (start, end, word, cost) of an edge."""
+        self._require_edge(number)
+        return self._edges[number]
 
     def next_number(self):
         """Return the number of the edge that is added next."""
@@ -89,12 +93,11 @@ class Machine:
 
     def run_route(self, place, route):
         """Return (end, word, cost) of a route from a place."""
-        self._require_place(place)
+        self.require_place(place)
         words = []
         total = 0
         for number in route:
-            self._require_edge(number)
-            start, end, word, cost = self._edges[number]
+            start, end, word, cost = self.edge(number)
             if start != place:
                 raise WrongPlace(number)
             place = end
@@ -104,21 +107,22 @@ class Machine:
 
     def system(self, place):
         """Return the system that starts at a place."""
-        self._require_place(place)
-        return _system_of(self._place_states(), self._paths(), _place_state(place))
+        self.require_place(place)
+        return _system_of(self._place_states(), self._paths(), place_state(place))
 
     def value_system(self, place, value):
         """Return the system with the prelude for a place and a value."""
-        self._require_place(place)
+        self.require_place(place)
         word = value_word(require_value(value), limit=MOST_VALUE_LETTERS)
         prelude = [
-            (-4, NEW_START, _place_state(place), word, 0),
+            (-4, NEW_START, place_state(place), word, 0),
             (-3, NEW_START, NEW_START, "sR", 0),
             (-2, NEW_START, NEW_START, "rs", 0),
         ]
         return _system_of([NEW_START] + self._place_states(), prelude + self._paths(), NEW_START)
 
-    def _require_place(self, place):
+    def require_place(self, place):
+        """Raise UnknownPlace for any value that is no place."""
         # True would be found among the places as 1.
         if not is_integer(place) or place not in self._places:
             raise UnknownPlace(place)
@@ -132,12 +136,12 @@ class Machine:
         return len(self._places) + sum(inner)
 
     def _place_states(self):
-        return [_place_state(place) for place in self._places]
+        return [place_state(place) for place in self._places]
 
     def _paths(self):
         """Return the edges as (number, state, state, word, cost)."""
         return [
-            (number, _place_state(start), _place_state(end), word, cost)
+            (number, place_state(start), place_state(end), word, cost)
             for number, (start, end, word, cost) in self._edges.items()
         ]
 
@@ -152,7 +156,7 @@ def machine_of(places, edges, following):
     return machine
 
 
-def _place_state(place):
+def place_state(place):
     """Return the state of a place."""
     return (-1, place)
 

@@ -13,11 +13,14 @@ def is_integer(value):
     return isinstance(value, int) and not isinstance(value, bool)
 
 
+def is_tuple_of(value, length):
+    """Tell whether a value is a tuple of so many items."""
+    return isinstance(value, tuple) and len(value) == length
+
+
 def is_row_of_integers(value, length):
     """Tell whether a value is a tuple of so many integers."""
-    if not isinstance(value, tuple) or len(value) != length:
-        return False
-    return all([is_integer(entry) for entry in value])
+    return is_tuple_of(value, length) and all([is_integer(entry) for entry in value])
 
 
 def in_form(move):

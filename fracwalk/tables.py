@@ -2,7 +2,7 @@
 
 from heapq import heappop, heappush
 
-from fracwalk.moves import is_integer, is_row_of_integers
+from fracwalk.moves import is_integer, is_row_of_integers, is_tuple_of
 from fracwalk.words import KINDS, multiply_kinds
 
 
@@ -23,7 +23,7 @@ def is_closed(table, system):
     """Tell whether any value is a closed table of a system."""
     if not isinstance(table, dict):
         return False
-    entries = _entries_in_base(table, system)
+    entries = entries_in_base(table, system)
     return (
         ("", system.start, system.start) in entries
         and all([_is_cost(cost) for cost in entries.values()])
@@ -35,14 +35,30 @@ def is_closed(table, system):
 
 def reading_cost(table, system, word, state):
     """Return the reading cost of a reduced word from the start to a state, or None."""
-    entries = _entries_in_base(table, system)
+    entries = entries_in_base(table, system)
     if word == "":
         return entries.get(("", system.start, state))
-    rows = _rows_of(entries)
+    rows = rows_of(entries)
     costs = {system.start: 0}
     for letter in word:
         costs = _costs_behind(costs, letter, rows)
     return costs.get(state)
+
+
+def entries_in_base(table, system):
+    """Return the table's entries of the four kinds between states of its base."""
+    states = {state: True for state in system.states}
+    entries = {key: table[key] for key in table if _is_triple(key, states)}
+    base = {p: True for p in states if ("", p, p) in entries}
+    return {key: entries[key] for key in entries if key[1] in base and key[2] in base}
+
+
+def rows_of(entries):
+    """Return a dict from (kind, state) to a dict from states to the costs of entries."""
+    rows = {}
+    for (kind, p, q), cost in entries.items():
+        rows.setdefault((kind, p), {})[q] = cost
+    return rows
 
 
 class Closing:
@@ -127,17 +143,9 @@ def _is_cost(value):
     return is_integer(value) and value >= 0
 
 
-def _entries_in_base(table, system):
-    """Return the table's entries of the four kinds between states of its base."""
-    states = {state: True for state in system.states}
-    entries = {key: table[key] for key in table if _is_triple(key, states)}
-    base = {p: True for p in states if ("", p, p) in entries}
-    return {key: entries[key] for key in entries if key[1] in base and key[2] in base}
-
-
 def _is_triple(key, states):
     """Tell whether a key of any kind is a triple (kind, state, state)."""
-    if not isinstance(key, tuple) or len(key) != 3:
+    if not is_tuple_of(key, 3):
         return False
     kind, p, q = key
     return kind in KINDS and is_state(p, states) and is_state(q, states)
@@ -146,14 +154,6 @@ def _is_triple(key, states):
 def _base_of(entries):
     """Return the base, given the entries between its states."""
     return [p for kind, p, q in entries if kind == "" and p == q]
-
-
-def _rows_of(entries):
-    """Return a dict from (kind, state) to a dict from states to the costs of entries."""
-    rows = {}
-    for (kind, p, q), cost in entries.items():
-        rows.setdefault((kind, p), {})[q] = cost
-    return rows
 
 
 def _steps_hold(entries, system):
@@ -168,7 +168,7 @@ def _steps_hold(entries, system):
 
 def _joins_hold(entries):
     """Tell whether any two entries that join have an entry of at most their sum."""
-    rows = _rows_of(entries)
+    rows = rows_of(entries)
     behind = {kind: _joined_behind(kind) for kind in KINDS}
     for (kind, p, m), cost in entries.items():
         for then, joined in behind[kind]:

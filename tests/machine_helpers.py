@@ -151,6 +151,19 @@ def derivation_of(system, table, items, found, word, state):
     return items, tuple(found[key] for key in choices[0][1])
 
 
+def growing_levels(levels, loop="r", cost=9):
+    """Places in pairs: the way from place 2 k to 2 k + 1 with the empty word goes along the pair before again.
+
+    With the loop r it goes twice along it, as "sr", r and "rs" are nothing; with the loop R three times.
+    """
+    machine = machine_with(2 * levels + 2, (0, 1, "", cost))
+    for level in range(levels):
+        machine.add_edge(2 * level + 2, 2 * level, "sr", 0)
+        machine.add_edge(2 * level + 1, 2 * level, loop, 0)
+        machine.add_edge(2 * level + 1, 2 * level + 3, "rs", 0)
+    return machine
+
+
 class MachineCase(Case):
     """A test case that looks at machines."""
 

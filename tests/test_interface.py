@@ -6,7 +6,7 @@ import inspect
 import pathlib
 import unittest
 
-from fracwalk import machines
+from fracwalk import machines, sessions
 
 # The signatures as the interface writes them, by file.
 SIGNATURES = {
@@ -56,6 +56,40 @@ SIGNATURES = {
         "derivation_cost(derivation, system, word, state)",
         "write_route(derivation, system, *, limit)",
     ],
+    "fracwalk.questions": [
+        "ask_move(machine, start, place, word)",
+        "check_move(machine, start, place, word, verdict)",
+    ],
+    "fracwalk.valuequestions": [
+        "ask_value(machine, start, value, place, target)",
+        "check_value(machine, start, value, place, target, verdict)",
+    ],
+    "fracwalk.sets": [
+        "list_set(part, *, limit)",
+        "check_list(part, verdict)",
+    ],
+    "fracwalk.comparisons": [
+        "contained(one, other)",
+        "met(one, other)",
+        "check_contained(one, other, verdict)",
+        "check_met(one, other, verdict)",
+    ],
+    "fracwalk.programs": [
+        "require_program(program, parts)",
+        "compile_program(program, parts)",
+        "trace_word(program, parts, trace)",
+        "route_of_trace(program, parts, trace)",
+        "trace_of_route(program, parts, route)",
+    ],
+    "fracwalk.sessions": [
+        "Walker(machine, place, value)",
+    ],
+    "fracwalk.formats": [
+        "format_machine(machine)",
+        "format_value(value)",
+        "parse_machine(text)",
+        "parse_value(text)",
+    ],
 }
 
 # The methods of classes, as the interface writes them.
@@ -70,6 +104,21 @@ METHODS = {
         "run_route(place, route)",
         "system(place)",
         "value_system(place, value)",
+    ],
+    sessions.Walker: [
+        "take(number)",
+        "add_edge(start, end, word, cost)",
+        "remove_edge(number)",
+        "reroute_edge(number, start, end)",
+        "edges()",
+        "checkpoint()",
+        "restore(number)",
+        "ask_move(place, word)",
+        "ask_value(place, target)",
+        "record_move(place, word)",
+        "record_value(place, target)",
+        "recorded(number)",
+        "halves(number)",
     ],
 }
 
@@ -127,6 +176,72 @@ EXAMPLES = """
 >>> items = (("r", (-1, 0), (0, 1), ("step", 0, 0)), ("s", (0, 1), (-1, 1), ("step", 0, 1)))
 >>> derivation_cost((items, (0, 1)), machine.system(0), "rs", (-1, 1))
 2
+>>> from fracwalk.machines import Machine
+>>> from fracwalk.questions import ask_move
+>>> machine = Machine(2)
+>>> first = machine.add_edge(0, 1, "rs", 2)
+>>> second = machine.add_edge(1, 0, "sR", 1)
+>>> (ask_move(machine, 0, 1, "rs")[:2], ask_move(machine, 0, 1, "rsrs")[0])
+(('reached', 2), 'barred')
+>>> from fracwalk.machines import Machine
+>>> from fracwalk.valuequestions import ask_value
+>>> machine = Machine(2)
+>>> first = machine.add_edge(0, 1, "rs", 2)
+>>> second = machine.add_edge(1, 0, "sR", 1)
+>>> ask_value(machine, 0, (0, 1), 1, (1, 1))[:2]
+('reached', 2)
+>>> from fracwalk.machines import Machine
+>>> from fracwalk.sets import list_set
+>>> machine = Machine(2)
+>>> first = machine.add_edge(0, 1, "rs", 2)
+>>> second = machine.add_edge(1, 0, "sR", 1)
+>>> list_set(("moves", machine, 0, 1), limit=10)[:2]
+('finite', ('rs',))
+>>> from fracwalk.machines import Machine
+>>> from fracwalk.sets import list_set
+>>> machine = Machine(1)
+>>> loop = machine.add_edge(0, 0, "rs", 1)
+>>> list_set(("moves", machine, 0, 0), limit=10)[0]
+'endless'
+>>> from fracwalk.machines import Machine
+>>> from fracwalk.comparisons import contained
+>>> machine = Machine(1)
+>>> loop = machine.add_edge(0, 0, "rs", 1)
+>>> contained(("moves", machine, 0, 0), ("moves", Machine(1), 0, 0))[:2]
+('parted', 'rs')
+>>> from fracwalk.programs import compile_program
+>>> compile_program(("repeat", ("move", "rs", 1)), {}).edges()
+{0: (0, 2, '', 0), 1: (2, 2, 'rs', 1), 2: (2, 1, '', 0)}
+>>> from fracwalk.programs import trace_word
+>>> trace_word(("repeat", ("move", "rs", 1)), {}, ("repeat", (("move",), ("move",))))
+('rsrs', 2)
+>>> from fracwalk.machines import Machine
+>>> from fracwalk.sessions import Walker
+>>> machine = Machine(2)
+>>> first = machine.add_edge(0, 1, "rs", 2)
+>>> second = machine.add_edge(1, 0, "sR", 1)
+>>> walker = Walker(machine, 0, (0, 1))
+>>> walker.take(0)
+>>> (walker.place, walker.value)
+(1, (1, 1))
+>>> from fracwalk.machines import Machine
+>>> from fracwalk.sessions import Walker
+>>> walker = Walker(Machine(2), 0, (0, 1))
+>>> first = walker.add_edge(0, 1, "rs", 2)
+>>> number = walker.record_move(1, "rs")
+>>> before = walker.halves(number)
+>>> second = walker.add_edge(0, 1, "rs", 1)
+>>> (before, walker.halves(number))
+((True, True), (True, False))
+>>> from fracwalk.machines import Machine
+>>> from fracwalk.formats import format_machine
+>>> machine = Machine(1)
+>>> loop = machine.add_edge(0, 0, "rs", 1)
+>>> format_machine(machine)
+'places 1\\nedge 0 0 0 rs 1\\nnext 1\\n'
+>>> from fracwalk.formats import format_value
+>>> format_value((-3, 2))
+'-3/2'
 """
 
 
@@ -166,7 +281,7 @@ class Interface(unittest.TestCase):
         self.assertEqual(runner.summarize(verbose=False).attempted, attempted)
 
     def test_examples(self):
-        self.assert_examples(EXAMPLES, 41)
+        self.assert_examples(EXAMPLES, 96)
 
     def test_examples_of_the_readme(self):
         readme = pathlib.Path(__file__).resolve().parent.parent / "README.md"
