@@ -1,9 +1,8 @@
 """The sets that are asked for, their words, and how these are read letter by letter with marks."""
 
-from fracwalk.errors import NotAWord, NotReduced
 from fracwalk.machines import place_state
 from fracwalk.tables import is_state
-from fracwalk.words import require_word
+from fracwalk.words import is_word
 
 MARKS = {"moves": ("start", "s", "r", "R"), "values": ("start", "first", "s", "r", "R")}
 LETTERS_AT_START = {"moves": "srR", "values": "s"}
@@ -47,9 +46,7 @@ class AskedSet:
 
     def may_hold(self, value):
         """Tell whether any value is a word that a set of this sort may have."""
-        try:
-            require_word(value)
-        except (NotAWord, NotReduced):
+        if not is_word(value):
             return False
         return self.about == "moves" or value in ("", "s") or value.startswith("sr")
 

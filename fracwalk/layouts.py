@@ -80,7 +80,8 @@ class Layout:
 
 def edges_along(laid, trace):
     """Return the list of the edges of a trace's route."""
-    if laid.form in ("move", "row") and not laid.within:
+    # A choice with nothing within it has no trace, so that only a move or an empty row is left.
+    if not laid.within:
         return [laid.first]
     if laid.form == "row":
         return [number for within, way in zip(laid.within, trace[1]) for number in edges_along(within, way)]

@@ -1,10 +1,10 @@
 """Programs with choices, repetitions and parts, their machines, and their traces."""
 
-from fracwalk.errors import InvalidProgram, LimitExceeded, NotAWord, NotReduced
+from fracwalk.errors import InvalidProgram
 from fracwalk.layouts import Layout, edges_along, trace_along
-from fracwalk.machines import HIGHEST_COST, MOST_LETTERS, MOST_PLACES, Machine
+from fracwalk.machines import HIGHEST_COST, MOST_LETTERS, Machine
 from fracwalk.moves import is_integer
-from fracwalk.words import reduce_word, require_word
+from fracwalk.words import is_word, reduce_word
 
 MOST_TOGETHER = 8
 MOST_PROGRAMS = 60
@@ -32,8 +32,6 @@ def compile_program(program, parts):
     """Return the machine of a program, with the start 0 and the end 1."""
     require_program(program, parts)
     layout = Layout(program, parts)
-    if layout.places > MOST_PLACES:
-        raise LimitExceeded(MOST_PLACES)
     machine = Machine(layout.places)
     for start, end, word, cost in layout.rows:
         machine.add_edge(start, end, word, cost)
@@ -120,11 +118,7 @@ class Inspection:
 
 def _is_edge_word(value):
     """Tell whether any value is a word that an edge may have."""
-    try:
-        require_word(value)
-    except (NotAWord, NotReduced):
-        return False
-    return len(value) <= MOST_LETTERS
+    return is_word(value) and len(value) <= MOST_LETTERS
 
 
 def _is_edge_cost(value):

@@ -16,8 +16,6 @@ class Reading:
         """Return the ascending tuple of the states behind one more letter from any state of a tuple."""
         key = (states, letter)
         if key not in self.kept:
-            behind = {}
-            for state in states:
-                behind.update(self.rows.get((letter, state), {}))
+            behind = {end: True for state in states for end in self.behind(state, letter)}
             self.kept[key] = tuple(sorted(behind))
         return self.kept[key]

@@ -64,7 +64,7 @@ def _live_pairs(behind, goal):
     for pair, steps in behind.items():
         for _, after in steps:
             before[after].append(pair)
-    live = {pair: True for pair in behind if pair[1] == goal and pair[0] != "start"}
+    live = {pair: True for pair in behind if pair[1] == goal}
     waiting = list(live)
     while waiting:
         pair = waiting.pop()

@@ -26,6 +26,15 @@ def require_word(value):
     return value
 
 
+def is_word(value):
+    """Tell whether any value is a reduced word."""
+    try:
+        require_word(value)
+    except (NotAWord, NotReduced):
+        return False
+    return True
+
+
 def reduce_word(word):
     """Return the reduced word with the move of a word."""
     letters = []

@@ -58,7 +58,8 @@ def cheapest_moves(machine, place, most):
 
 def cheapest_values(machine, place, value, most):
     """The least costs of routes by (end, value), over values with numerators and denominators up to most."""
-    return cheapest(machine, place, value, lambda now, matrix: moved(matrix, now), lambda now: max(map(abs, now)) <= most)
+    return cheapest(machine, place, value, lambda now, matrix: moved(matrix, now),
+        lambda now: max(map(abs, now)) <= most)
 
 
 # Reduced words by their matrices.
@@ -76,7 +77,8 @@ def value_words(most_letters):
 
 def in_order(words):
     """Words by length, then by letters, s before r before R."""
-    return tuple(sorted(words, key=lambda word: (len(word), word.replace("s", "a").replace("r", "b").replace("R", "c"))))
+    return tuple(sorted(words, key=lambda word: (len(word), word.replace("s", "a").replace("r", "b").replace("R",
+                    "c"))))
 
 
 class QuestionCase(MachineCase):

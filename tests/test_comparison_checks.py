@@ -7,7 +7,7 @@ from fracwalk.comparisons import check_contained, check_met, contained, met
 from fracwalk.machines import Machine
 from fracwalk.questions import ask_move
 from fracwalk.tables import least_table
-from tests.checkers import ground, is_contained_verdict, is_met_verdict
+from tests.checkers import ground, is_contained_verdict, is_met_verdict, letters_after, next_mark
 from tests.machine_helpers import machine_with, some_machines, two_places
 from tests.question_helpers import QuestionCase
 
@@ -59,12 +59,14 @@ class Contained(CheckCase):
         for pair, expected in [
             (("s", (5, 1), ()), False), (("s", (-1, 2), (P,)), False), (("s", T, ()), False), (("first", P, ()), False),
             (("", P, ()), False), ((None, P, ()), False), (("s", P, (Q, P)), False), (("s", P, (P, P)), False),
-            (("s", P, ((9, 9),)), False), (("s", P, [P]), False), (("s", P, P), False), (("s", P), False), (("s", P, (P,), ()), False),
-            (["s", P, (P,)], False), (("s", (-1, False), (P,)), False), (("s", P, ((-1, False),)), False), (None, False),
-            (("s", [-1, 0], (P,)), False), (("s", P, None), False), (("r", P, (P,)), True), (("R", P, ()), True), (("r", Q, ()), True),
+            (("s", P, ((9, 9),)), False), (("s", P, [P]), False), (("s", P, P), False), (("s", P), False),
+            (("s", P, (P,), ()), False),
+            (["s", P, (P,)], False), (("s", (-1, False), (P,)), False), (("s", P, ((-1, False),)), False),
+            (None, False),
+            (("s", [-1, 0], (P,)), False), (("s", P, None), False), (("r", P, (P,)), True), (("R", P, ()), True),
+            (("r", Q, ()), True),
             (("R", (1, 1), (P, Q, T)), False), (("s", P, ()), False), (("start", P, ()), False),
         ]:
-            self.assertIs(bool(is_contained_verdict(self.one, self.other, self.with_pairs(self.pairs + (pair,)))), expected, pair)
             self.assert_for(expected, self.with_pairs(self.pairs + (pair,)))
 
     def test_every_more_pair(self):
@@ -116,12 +118,15 @@ class Contained(CheckCase):
         wrong = ("s", P, P, ("step", 0, 0))
         for other, expected in [
             ((), False), (items[:-1], None), (items[1:], None), (items + (wrong,), False), (items + (None,), False),
-            (items + (("", Q, Q, ("stay",)),), True), (items + (("", P, P, ("stay",)),), True), (list(items), False), (None, False),
+            (items + (("", Q, Q, ("stay",)),), True), (items + (("", P, P, ("stay",)),), True), (list(items), False),
+            (None, False),
             (items + (("r", Q, T, ("step", 2, 0)),), True), (items + (("r", Q, T, ("step", 2, 1)),), False),
             (items + (("r", P, T, ("step", 2, 0)),), False), (items[::-1], None), ({}, False),
         ]:
             verdict = ("contained", (self.table, other, self.pairs))
-            self.assert_for(bool(is_contained_verdict(self.one, self.other, verdict)) if expected is None else expected, verdict)
+            if expected is None:
+                expected = bool(is_contained_verdict(self.one, self.other, verdict))
+            self.assert_for(expected, verdict)
 
     def test_items_removed_one_by_one(self):
         kept = 0
@@ -182,7 +187,8 @@ class Contained(CheckCase):
             self.assert_for(False, (kind, self.verdict[1]))
         for evidence in [None, (), self.verdict[1][:2], self.verdict[1] + ((),), list(self.verdict[1]), {}]:
             self.assert_for(False, ("contained", evidence))
-        for verdict in [self.verdict[:1], self.verdict + ((),), list(self.verdict), (self.verdict,), self.verdict[::-1]]:
+        for verdict in [self.verdict[:1], self.verdict + ((),), list(self.verdict), (self.verdict,),
+            self.verdict[::-1]]:
             self.assert_for(False, verdict)
 
     def test_exchanged_sets(self):
@@ -264,7 +270,8 @@ class Parted(CheckCase):
         # The words "rs" and "srs" lead to the place in the first system, but "sRs" on are no value words.
         start = (-2, 0)
         items = (
-            ("s", start, (-3, 1), ("step", -3, 0)), ("R", (-3, 1), start, ("step", -3, 1)), ("s", start, P, ("step", -4, 0)),
+            ("s", start, (-3, 1), ("step", -3, 0)), ("R", (-3, 1), start, ("step", -3, 1)),
+            ("s", start, P, ("step", -4, 0)),
             ("r", P, (0, 1), ("step", 0, 0)), ("s", (0, 1), P, ("step", 0, 1)),
         )
         table = verdict[3]
@@ -323,15 +330,18 @@ class Met(CheckCase):
     def test_derivations(self):
         _, word, one, other = self.verdict
         for ways, expected in [
-            ((one, one), False), ((other, other), False), ((other, one), False), ((one, None), False), ((None, other), False),
+            ((one, one), False), ((other, other), False), ((other, one), False), ((one, None), False),
+            ((None, other), False),
             ((one, ()), False), ((list(one), other), False), ((one, (other[0], other[1][::-1])), False),
-            (((one[0] + (None,), one[1]), other), False), ((one, (other[0] + (("", Q, Q, ("stay",)),), other[1])), True),
+            (((one[0] + (None,), one[1]), other), False),
+            ((one, (other[0] + (("", Q, Q, ("stay",)),), other[1])), True),
         ]:
             self.assert_for(expected, ("met", word, *ways))
 
     def test_other_kinds_and_sets(self):
         for verdict in [
-            self.verdict[:3], self.verdict + ((),), list(self.verdict), ("parted",) + self.verdict[1:], ("Met",) + self.verdict[1:],
+            self.verdict[:3], self.verdict + ((),), list(self.verdict), ("parted",) + self.verdict[1:],
+            ("Met",) + self.verdict[1:],
             ("apart",) + self.verdict[1:], self.verdict[::-1],
         ]:
             self.assert_for(False, verdict)
@@ -347,7 +357,8 @@ class Met(CheckCase):
         self.assert_met_check(part, part, True, verdict)
         start = (-2, 0)
         items = (
-            ("s", start, (-3, 1), ("step", -3, 0)), ("R", (-3, 1), start, ("step", -3, 1)), ("s", start, P, ("step", -4, 0)),
+            ("s", start, (-3, 1), ("step", -3, 0)), ("R", (-3, 1), start, ("step", -3, 1)),
+            ("s", start, P, ("step", -4, 0)),
         )
         self.assert_met_check(part, part, False, ("met", "sRs", (items, (0, 1, 2)), (items, (0, 1, 2))))
         self.assert_met_check(part, part, True, ("met", "s", (items, (2,)), (items, (2,))))
@@ -439,9 +450,12 @@ class Apart(CheckCase):
 
     def test_other_kinds_and_sets(self):
         for verdict in [
-            ("contained", self.verdict[1]), ("Apart", self.verdict[1]), self.verdict[:1], self.verdict + ((),), list(self.verdict),
-            ("apart", self.verdict[1][:2]), ("apart", self.verdict[1] + ((),)), ("apart", list(self.verdict[1])), ("apart", None),
-            ("apart", (self.table, self.other_table, list(self.pairs))), ("apart", (self.table, self.other_table, None)),
+            ("contained", self.verdict[1]), ("Apart", self.verdict[1]), self.verdict[:1], self.verdict + ((),),
+            list(self.verdict),
+            ("apart", self.verdict[1][:2]), ("apart", self.verdict[1] + ((),)), ("apart", list(self.verdict[1])),
+            ("apart", None),
+            ("apart", (self.table, self.other_table, list(self.pairs))),
+            ("apart", (self.table, self.other_table, None)),
         ]:
             self.assert_for(False, verdict)
         self.assert_met_check(self.other, self.one, False, self.verdict)
@@ -483,16 +497,50 @@ class AllKinds(CheckCase):
         rows = (("", P, P, ("stay",)),) * 4000
         for check, plain, values in [
             (check_contained, is_contained_verdict, [
-                ("contained", (table, rows, pairs)), ("contained", (table, items, (("s", P, (P,) * 9000),))), ("contained", deep),
-                ("contained", (table, items, (("s", Q, (P, Q)),) * 3000)), ("parted", "sr" * 9000, (rows, (0,) * 18000), table),
+                ("contained", (table, rows, pairs)), ("contained", (table, items, (("s", P, (P,) * 9000),))),
+                ("contained", deep),
+                ("contained", (table, items, (("s", Q, (P, Q)),) * 3000)),
+                ("parted", "sr" * 9000, (rows, (0,) * 18000), table),
             ]),
             (check_met, is_met_verdict, [
-                ("apart", (table, table, (("s", P, P),) * 5000)), ("apart", deep), ("met", "rs", deep, deep), ("met", deep, (), ()),
+                ("apart", (table, table, (("s", P, P),) * 5000)), ("apart", deep), ("met", "rs", deep, deep),
+                ("met", deep, (), ()),
             ]),
         ]:
             for value in values:
                 self.assertIs(bool(plain(part, part, value)), False)
                 self.assert_checked(False, lambda near: check(part, part, near), value, [machine])
+
+    def closure(self, one, other):
+        """All triples that reading leads to, whatever they say of the places."""
+        (about, first, _), (_, second, _) = ground(one), ground(other)
+        table, (_, items, _) = least_table(first)[0], least_table(second)
+        found = [("start", first.start, (second.start,))]
+        for mark, state, others in found:
+            for letter in letters_after(mark, about):
+                reached = tuple(sorted({q for x, p, q, _ in items if x == letter and p in others}))
+                for x, p, q in table:
+                    triple = (next_mark(mark, letter, about), q, reached)
+                    if (x, p) == (letter, state) and triple not in found:
+                        found.append(triple)
+        return table, items, tuple(found)
+
+    def test_all_that_reading_leads_to(self):
+        # Closed under reading, and accepted only if no word parts.
+        asked = {"contained": 0, "parted": 0}
+        for at, one, other in self.pairs_of_sets(75, 40):
+            answer = contained(one, other)
+            self.assert_contained_check(one, other, answer[0] == "contained", ("contained", self.closure(one, other)))
+            asked[answer[0]] += 1
+        self.assertGreater(min(asked.values()), 10)
+
+    def test_a_word_that_parts_behind_the_empty_word(self):
+        first, second = machine_with(2, (0, 1, "s", 1)), machine_with(2, (0, 0, "s", 1))
+        one, other = ("moves", first, 0, 1), ("moves", second, 0, 1)
+        table, items, pairs = self.closure(one, other)
+        self.assertIn(("s", Q, (P,)), pairs)
+        self.assert_contained_check(one, other, False, ("contained", (table, items, pairs)))
+        self.assert_contained_check(one, ("moves", second, 0, 0), True, ("contained", (table, items, pairs)))
 
     def test_contained_values_near_verdicts(self):
         asked = {"contained": 0, "parted": 0}
@@ -500,7 +548,8 @@ class AllKinds(CheckCase):
             verdict = contained(one, other)
             asked[verdict[0]] += 1
             self.assert_variations(
-                lambda near: check_contained(one, other, near), lambda near: is_contained_verdict(one, other, near), verdict,
+                lambda near: check_contained(one, other, near), lambda near: is_contained_verdict(one, other, near),
+                verdict,
                 [one[1], other[1]], lambda near: near[0], 25, seed=at,
             )
         self.assertGreater(min(asked.values()), 10)

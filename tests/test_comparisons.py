@@ -28,7 +28,7 @@ ELEVEN = value_of("srsrsrsrsrs")
 
 
 def nearest(one, other, wanted):
-    """The length of a shortest word for which (in one, in other) is wanted, or None, reading letters in both at once."""
+    """The length of a shortest word for which (in one, in other) is as wanted, or None, by reading in both at once."""
     (about, first, place), (_, second, other_place) = ground(one), ground(other)
     entries, others = least_entries(first), least_entries(second)
     if ((("", first.start, place) in entries), (("", second.start, other_place) in others)) == wanted:
@@ -148,7 +148,8 @@ class Answers(ComparisonCase):
         nothing = machine_with(2, (0, 1, "", 1))
         sets = [("moves", machine, 0, 1) for machine in (both, word, nothing)]
         for one, other, within_it, shortest in [
-            (0, 0, None, 0), (0, 1, 0, 1), (0, 2, 1, 0), (1, 0, None, 1), (1, 1, None, 1), (1, 2, 1, None), (2, 0, None, 0),
+            (0, 0, None, 0), (0, 1, 0, 1), (0, 2, 1, 0), (1, 0, None, 1), (1, 1, None, 1), (1, 2, 1, None),
+            (2, 0, None, 0),
             (2, 1, 0, None), (2, 2, None, 0),
         ]:
             one, other = sets[one], sets[other]
@@ -223,7 +224,8 @@ class Answers(ComparisonCase):
         words, others = [verdict[1] for verdict in lists]
         only, common = [word for word in words if word not in others], [word for word in words if word in others]
         found = contained(one, other), met(one, other)
-        self.assertEqual([verdict[0] for verdict in found], ["parted" if only else "contained", "met" if common else "apart"])
+        self.assertEqual([verdict[0] for verdict in found], ["parted" if only else "contained",
+                "met" if common else "apart"])
         if only:
             self.assertIn(found[0][1], [word for word in only if len(word) == len(only[0])])
         if common:

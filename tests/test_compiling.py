@@ -70,7 +70,8 @@ class Machines(CompileCase):
         self.assert_machine(2, [(0, 1, "rs", 1)], choice(MOVE))
         self.assert_machine(2, [(0, 1, "rs", 1), (0, 1, "s", 2), (0, 1, "", 0)], choice(MOVE, ONE, NOTHING))
         self.assert_machine(3, [(0, 2, "rs", 1)], row(MOVE, choice()))
-        self.assert_machine(3, [(0, 2, "s", 2), (2, 1, "s", 2), (0, 1, "rs", 1)], choice(row(ONE, ONE), choice(choice(), MOVE)))
+        self.assert_machine(3, [(0, 2, "s", 2), (2, 1, "s", 2), (0, 1, "rs", 1)],
+            choice(row(ONE, ONE), choice(choice(), MOVE)))
 
     def test_repeats(self):
         self.assert_machine(3, [(0, 2, "", 0), (2, 2, "", 0), (2, 1, "", 0)], ("repeat", NOTHING))
@@ -96,7 +97,8 @@ class Machines(CompileCase):
         self.assert_machine(3, [(0, 2, "s", 2), (2, 1, "rs", 1)], ("part", "b"), parts)
         self.assert_machine(3, [(0, 2, "s", 2), (2, 1, "rs", 1), (0, 1, "s", 2)], ("part", "c"), parts)
         self.assert_machine(
-            5, [(0, 3, "s", 2), (3, 2, "rs", 1), (2, 4, "s", 2), (4, 1, "rs", 1)], row(("part", "b"), ("part", "b")), parts
+            5, [(0, 3, "s", 2), (3, 2, "rs", 1), (2, 4, "s", 2), (4, 1, "rs", 1)], row(("part", "b"), ("part", "b")),
+            parts
         )
 
     def test_drawn_programs(self):
@@ -106,7 +108,8 @@ class Machines(CompileCase):
             parts = drawn_parts(draw, draw.randint(0, 4))
             program = drawn_program(draw, sorted(parts))
             places, edges = plain_edges(program, parts) if plain_fault(program, parts) is None else (0, [])
-            if places and places <= 12 and len(edges) <= 26 and places + sum(max(len(edge[2]) - 1, 0) for edge in edges) <= 20:
+            if places and places <= 12 and len(edges) <= 26 and places + sum(max(len(edge[2]) - 1,
+                    0) for edge in edges) <= 20:
                 self.assert_machine(places, edges, program, parts)
                 made += 1
         self.assertGreater(made, 300)

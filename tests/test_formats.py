@@ -41,7 +41,8 @@ def fits(line, before):
         return len(parts) == 2 and bool(INTEGER.fullmatch(parts[1])) and int(parts[1]) > highest
     if parts[0] != "edge" or len(parts) != 6:
         return False
-    if not all(INTEGER.fullmatch(part) for part in (parts[1], parts[2], parts[3], parts[5])) or int(parts[1]) <= highest:
+    if not all(INTEGER.fullmatch(part) for part in (parts[1], parts[2], parts[3],
+            parts[5])) or int(parts[1]) <= highest:
         return False
     word = "" if parts[4] == "-" else parts[4]
     if parts[4] == "" or not is_reduced_word(word) or len(word) > 8:
@@ -131,7 +132,8 @@ class Faults(FormatCase):
     def test_texts_that_end_too_early(self):
         for text, line in [
             ("", 0), ("places 1", 0), ("places 1\n", 1), ("places 1\nnext 0", 1), ("places 1\nedge 0 0 0 s 1\n", 2),
-            ("places 1\nedge 0 0 0 s 1", 1), ("places 1\nedge 0 0 0 s 1\nnext 1", 2), ("places", 0), ("x", 0), ("places 1\nx", 1),
+            ("places 1\nedge 0 0 0 s 1", 1), ("places 1\nedge 0 0 0 s 1\nnext 1", 2), ("places", 0), ("x", 0),
+            ("places 1\nx", 1),
             (" ", 0), ("places 1\nedge 0 0 0 s 1\nnext 0", 2),
         ]:
             self.assert_fault(line, text)
@@ -139,15 +141,20 @@ class Faults(FormatCase):
     def test_nothing_fits_behind_next(self):
         good = "places 1\nnext 1\n"
         self.assert_text(good, machine_of(1, {}, 1))
-        for more in ["\n", "next 1\n", "edge 1 0 0 s 1\n", " ", "x", "next 2", "\n\n", "places 1\nnext 1\n", "\r\n", "\t"]:
+        for more in ["\n", "next 1\n", "edge 1 0 0 s 1\n", " ", "x", "next 2", "\n\n", "places 1\nnext 1\n", "\r\n",
+            "\t"]:
             self.assert_fault(2, good + more)
 
     def test_first_lines(self):
         for line in [
-            "", "places", "places ", "places 0", "places 13", "places 01", "places +1", "places -1", "places 1 ", " places 1",
-            "places  1", "Places 1", "place 1", "places 1 1", "places one", "places 1\r", "places\t1", "places 1.0", "places 1_0",
-            "places \u0661", "places \u00b2", "places 1\u00a0", "places 1\x0b", f"places {ONE_MORE}", f"places {'1' * 15000}", "next 0",
-            "edge 0 0 0 s 1", "places True", "places 0x1", "places 1e0", "places 00", "places -0", "places 1\x1c", "places \uff11",
+            "", "places", "places ", "places 0", "places 13", "places 01", "places +1", "places -1", "places 1 ",
+            " places 1",
+            "places  1", "Places 1", "place 1", "places 1 1", "places one", "places 1\r", "places\t1", "places 1.0",
+            "places 1_0",
+            "places \u0661", "places \u00b2", "places 1\u00a0", "places 1\x0b", f"places {ONE_MORE}",
+            f"places {'1' * 15000}", "next 0",
+            "edge 0 0 0 s 1", "places True", "places 0x1", "places 1e0", "places 00", "places -0", "places 1\x1c",
+            "places \uff11",
         ]:
             self.assert_fault(0, line + "\nnext 0\n")
             self.assert_fault(0, line + "\nnext x\n")
@@ -157,29 +164,40 @@ class Faults(FormatCase):
         self.assert_text(f"places 2\n{good}\nnext 4\n", machine_of(2, {3: (0, 1, "rs", 2)}, 4))
         for line in [
             "", "edge", "edge 3 0 1 rs", "edge 3 0 1 rs 2 ", " edge 3 0 1 rs 2", "edge  3 0 1 rs 2", "edge 3  0 1 rs 2",
-            "edge 3 0 1  rs 2", "edge 3 0 1 rs  2", "edge 3 0 1  2", "edge 3 0 1 rs 2 2", "edge 03 0 1 rs 2", "edge 3 00 1 rs 2",
-            "edge 3 0 01 rs 2", "edge 3 0 1 rs 02", "edge -3 0 1 rs 2", "edge +3 0 1 rs 2", "edge 3 -0 1 rs 2", "edge 3 +0 1 rs 2",
-            "edge 3 0 1 rs +2", "edge 3 0 1 rs -2", "edge 3 2 1 rs 2", "edge 3 0 2 rs 2", "edge 3 0 1 rs 10", "edge 3 0 1 rx 2",
-            "edge 3 0 1 ss 2", "edge 3 0 1 srsrsrsrs 2", "edge 3 0 1 -- 2", "edge 3 0 1 -s 2", "edge 3 0 1 s- 2", "edge 3 0 1 rs",
-            "edge 3 0 1 '' 2", "Edge 3 0 1 rs 2", "edge 3 0 1 rs 2\r", "edge\t3 0 1 rs 2", "edge 3 0 1\trs 2", "edge 3.0 0 1 rs 2",
-            "edge \u0663 0 1 rs 2", "edge 3 0 1 rs \u0662", "edge 3 0 \u00b9 rs 2", f"edge {ONE_MORE} 0 1 rs 2", f"edge 3 0 {ONE_MORE} rs 2",
-            f"edge 3 {NINES} 1 rs 2", f"edge 3 0 1 rs {ONE_MORE}", "edge 3 0 1 RS 2", "edge x 0 1 rs 2", "edge 3 0 1 2 rs", "rs",
-            "edge 3 0 1 rs 2 next 4", "places 2", "edge 3,0,1,rs,2", "edge 3 0 1 rs None", "edge 3 0 1 ", "edge 3 0 1 rs \n",
+            "edge 3 0 1  rs 2", "edge 3 0 1 rs  2", "edge 3 0 1  2", "edge 3 0 1 rs 2 2", "edge 03 0 1 rs 2",
+            "edge 3 00 1 rs 2",
+            "edge 3 0 01 rs 2", "edge 3 0 1 rs 02", "edge -3 0 1 rs 2", "edge +3 0 1 rs 2", "edge 3 -0 1 rs 2",
+            "edge 3 +0 1 rs 2",
+            "edge 3 0 1 rs +2", "edge 3 0 1 rs -2", "edge 3 2 1 rs 2", "edge 3 0 2 rs 2", "edge 3 0 1 rs 10",
+            "edge 3 0 1 rx 2",
+            "edge 3 0 1 ss 2", "edge 3 0 1 srsrsrsrs 2", "edge 3 0 1 -- 2", "edge 3 0 1 -s 2", "edge 3 0 1 s- 2",
+            "edge 3 0 1 rs",
+            "edge 3 0 1 '' 2", "Edge 3 0 1 rs 2", "edge 3 0 1 rs 2\r", "edge\t3 0 1 rs 2", "edge 3 0 1\trs 2",
+            "edge 3.0 0 1 rs 2",
+            "edge \u0663 0 1 rs 2", "edge 3 0 1 rs \u0662", "edge 3 0 \u00b9 rs 2", f"edge {ONE_MORE} 0 1 rs 2",
+            f"edge 3 0 {ONE_MORE} rs 2",
+            f"edge 3 {NINES} 1 rs 2", f"edge 3 0 1 rs {ONE_MORE}", "edge 3 0 1 RS 2", "edge x 0 1 rs 2",
+            "edge 3 0 1 2 rs", "rs",
+            "edge 3 0 1 rs 2 next 4", "places 2", "edge 3,0,1,rs,2", "edge 3 0 1 rs None", "edge 3 0 1 ",
+            "edge 3 0 1 rs \n",
         ]:
             self.assert_fault(1, f"places 2\n{line}\nnext 4\n")
             self.assert_fault(2, f"places 2\nedge 1 0 1 r 0\n{line}\nnext 4\n")
 
     def test_numbers_ascend(self):
-        for first, second, line in [(0, 0, 2), (1, 0, 2), (5, 4, 2), (5, 5, 2), (10, 9, 2), (9, 10, None), (0, 1, None), (0, 100, None)]:
+        for first, second, line in [(0, 0, 2), (1, 0, 2), (5, 4, 2), (5, 5, 2), (10, 9, 2), (9, 10, None), (0, 1, None),
+            (0, 100, None)]:
             text = f"places 1\nedge {first} 0 0 s 1\nedge {second} 0 0 r 1\nnext 101\n"
             self.assertEqual(self.assert_as_told(text), line)
 
     def test_the_next_number_is_above_all(self):
-        for number, following, fits_it in [(0, 0, False), (0, 1, True), (7, 7, False), (7, 8, True), (7, 80, True), (7, 0, False), (10, 9, False)]:
+        for number, following, fits_it in [(0, 0, False), (0, 1, True), (7, 7, False), (7, 8, True), (7, 80, True),
+            (7, 0, False), (10, 9, False)]:
             text = f"places 1\nedge {number} 0 0 s 1\nnext {following}\n"
             self.assertEqual(self.assert_as_told(text), None if fits_it else 2)
         for line in [
-            "next", "next ", "next 04", "next +4", "next -4", "next 4 ", " next 4", "next  4", "next 4 4", "Next 4", "next x", "next 4\r",
+            "next", "next ", "next 04", "next +4", "next -4", "next 4 ", " next 4", "next  4", "next 4 4", "Next 4",
+            "next x", "next 4\r",
             f"next {ONE_MORE}", "next \u0664", "", "nex 4", "next 4.0", "next 4_0", "next\t4", "next -0",
         ]:
             self.assert_fault(2, f"places 1\nedge 3 0 0 s 1\n{line}\n")
@@ -198,7 +216,8 @@ class Faults(FormatCase):
         self.assertIsNone(self.assert_as_told("\n".join(["places 1"] + edges[:26] + ["next 26"]) + "\n"))
         self.assert_fault(27, "\n".join(["places 1"] + edges + ["next 27"]) + "\n")
         self.assert_fault(27, "\n".join(["places 1"] + edges + ["x"]) + "\n")
-        many = "\n".join(["places 12"] + [f"edge {number} 0 0 srsrs 0" for number in range(2)] + ["edge 2 0 0 s 0", "edge 5 0 0 sr 0"])
+        many = "\n".join(["places 12"] + [f"edge {number} 0 0 srsrs 0" for number in range(2)] + ["edge 2 0 0 s 0",
+                "edge 5 0 0 sr 0"])
         self.assert_fault(4, many + "\nnext 6\n")
         self.assertEqual(self.assert_as_told(many.rpartition("\n")[0] + "\nnext 6\n"), None)
         self.assert_fault(1, "places 12\n" + "edge 0 0 0 srsrsrsrs 0\n" * 3)
@@ -293,9 +312,12 @@ class Values(FormatCase):
 
     def test_texts_that_are_none(self):
         for text in [
-            "", "/", "1", "1/", "/1", "-/1", "1/-", "-", "--1/2", "-0/1", "+1/2", "1/+2", "1/-2", "-1/0", "2/0", "0/0", "-0/0", "2/4",
-            "6/3", "0/2", "0/5", "01/2", "1/02", "00/1", "-01/2", "1/00", "1 /2", "1/ 2", " 1/2", "1/2 ", "1/2\n", "\n1/2", "1/2/3",
-            "1//2", "/1/2", "1/2/", "1.0/2", "1/2.0", "1_0/3", "x/1", "1/x", "infinity", "1\\2", "\u0661/2", "1/\u0662", "\u00b2/3", "1/2\r",
+            "", "/", "1", "1/", "/1", "-/1", "1/-", "-", "--1/2", "-0/1", "+1/2", "1/+2", "1/-2", "-1/0", "2/0", "0/0",
+            "-0/0", "2/4",
+            "6/3", "0/2", "0/5", "01/2", "1/02", "00/1", "-01/2", "1/00", "1 /2", "1/ 2", " 1/2", "1/2 ", "1/2\n",
+            "\n1/2", "1/2/3",
+            "1//2", "/1/2", "1/2/", "1.0/2", "1/2.0", "1_0/3", "x/1", "1/x", "infinity", "1\\2", "\u0661/2", "1/\u0662",
+            "\u00b2/3", "1/2\r",
             "- 1/2", "1/2-", "1-/2", f"{ONE_MORE}/1", f"-{ONE_MORE}/1", f"1/{ONE_MORE}", f"{ONE_MORE}/{ONE_MORE}",
             "9" * 20000, "9" * 9000 + "/" + "9" * 9000, "0x1/2", "1e0/2", "(1, 2)", "1:2", "\uff11/2", "\t1/2", "None",
         ]:
@@ -307,7 +329,8 @@ class Values(FormatCase):
             text = format_value(draw.choice(small_values(12)))
             at = draw.randint(0, len(text))
             sign = draw.choice("0123456789/- +\n\u0661x")
-            text = draw.choice([text[:at] + sign + text[at:], text[:at] + sign + text[at + 1 :], text[:at] + text[at + 1 :], text[::-1]])
+            text = draw.choice([text[:at] + sign + text[at:], text[:at] + sign + text[at + 1 :],
+                    text[:at] + text[at + 1 :], text[::-1]])
             match = re.fullmatch("(-?)(0|[1-9][0-9]{0,59})/(0|[1-9][0-9]{0,59})", text)
             value = (int(match[1] + match[2]), int(match[3])) if match and match[1] + match[2] != "-0" else None
             if value is not None and (value == (1, 0) or (value[1] > 0 and math.gcd(*value) == 1)):

@@ -60,7 +60,8 @@ class Edited:
         def on(machine):
             moves, values = ("moves", machine, start, place), ("values", machine, start, value, place)
             return [
-                (lambda: ask_move(machine, start, place, word), lambda near: check_move(machine, start, place, word, near)),
+                (lambda: ask_move(machine, start, place, word), lambda near: check_move(machine, start, place, word,
+                        near)),
                 (
                     lambda: ask_value(machine, start, value, place, target),
                     lambda near: check_value(machine, start, value, place, target, near),
@@ -101,7 +102,8 @@ class Histories(QuestionCase):
         # Edges with the same numbers in a machine that was never edited give the same answers.
         draw = random.Random(41)
         for machine in some_machines(12, places=3, edges=3, longest=3, seed=95):
-            edited, another = Edited(machine, draw), some_machines(1, places=2, edges=3, longest=2, seed=draw.randrange(99))[0]
+            edited, another = Edited(machine, draw), some_machines(1, places=2, edges=3, longest=2,
+                seed=draw.randrange(99))[0]
             for _ in range(6):
                 edited.edit()
                 fresh = machine_of(len(machine), machine.edges(), machine.next_number())
@@ -122,7 +124,8 @@ class Histories(QuestionCase):
         draw = random.Random(43)
         taken = refused = 0
         for machine in some_machines(12, places=3, edges=4, longest=3, seed=97):
-            edited, another = Edited(machine, draw), some_machines(1, places=2, edges=3, longest=2, seed=draw.randrange(99))[0]
+            edited, another = Edited(machine, draw), some_machines(1, places=2, edges=3, longest=2,
+                seed=draw.randrange(99))[0]
             on = edited.questions(another)
             earlier = []
             for _ in range(8):
@@ -163,7 +166,8 @@ class Histories(QuestionCase):
             derivations = [verdict[2] for verdict in verdicts.values() if verdict[0] == "reached"] or [((), ())]
             for word, verdict in verdicts.items():
                 for table in tables:
-                    for near in [("barred", table)] + [("reached", cost, way, table) for way in derivations for cost in range(5)]:
+                    for near in [("barred", table)] + [("reached", cost, way,
+                            table) for way in derivations for cost in range(5)]:
                         if check_move(machine, start, place, word, near):
                             self.assertEqual(accepted_answer(near), accepted_answer(verdict))
 

@@ -139,6 +139,49 @@ class Language(unittest.TestCase):
                     caught = {word.id for word in ast.walk(node.type) if isinstance(word, ast.Name)}
                     self.assertFalse(caught & {"ValueError", "LookupError", "IndexError"}, where)
 
+    def test_lambdas_on_one_line_have_other_parameters(self):
+        for name, tree in trees():
+            seen = set()
+            for node in ast.walk(tree):
+                if isinstance(node, ast.Lambda):
+                    where = (node.lineno, tuple(word.arg for word in node.args.args))
+                    self.assertNotIn(where, seen, name)
+                    seen.add(where)
+
+    def test_comprehensions_stand_in_functions(self):
+        for name, tree in trees():
+            for node in tree.body:
+                if not isinstance(node, (ast.FunctionDef, ast.ClassDef)):
+                    for within in ast.walk(node):
+                        self.assertNotIsInstance(within, (ast.ListComp, ast.DictComp, ast.SetComp, ast.Lambda), name)
+
+    def test_no_local_name_is_that_of_an_import_or_a_class(self):
+        for name, tree in trees():
+            taken = {node.name for node in tree.body if isinstance(node, ast.ClassDef)}
+            for node in tree.body:
+                if isinstance(node, ast.ImportFrom):
+                    taken.update(alias.asname or alias.name for alias in node.names)
+            for node in ast.walk(tree):
+                where = f"{name}:{getattr(node, 'lineno', 0)}"
+                if isinstance(node, ast.Name) and isinstance(node.ctx, ast.Store):
+                    self.assertNotIn(node.id, taken, where)
+                if isinstance(node, ast.arg):
+                    self.assertNotIn(node.arg, taken, where)
+
+    def test_what_is_iterated_at_once(self):
+        # Kept zips and enumerates are iterated once; none stands in an own call.
+        lazy = {"zip", "enumerate", "reversed", "map"}
+        own = {node.name for _, tree in trees() for node in ast.walk(tree) if isinstance(node, ast.FunctionDef)}
+        for name, tree in trees():
+            for node in ast.walk(tree):
+                if isinstance(node, ast.Call):
+                    called = node.func.id if isinstance(node.func, ast.Name) else getattr(node.func, "attr", "")
+                    if called in own:
+                        for part in node.args:
+                            is_lazy = isinstance(part, ast.Call) and isinstance(part.func,
+                                ast.Name) and part.func.id in lazy
+                            self.assertFalse(is_lazy, f"{name}:{node.lineno}")
+
     def test_is_stands_beside_none_and_booleans(self):
         for name, tree in trees():
             for node in ast.walk(tree):

@@ -53,7 +53,8 @@ class FiniteLists(ListCase):
         one, two, three = self.words
         for words in [
             (), (one,), (one, two), (one, three), (two, three), (one, three, two), (two, one, three), (three, two, one),
-            (one, two, three, three), (one, one, two, three), (one, two, "sR"), (one, two, "rsr"), (one, two, three, "rsr"),
+            (one, two, three, three), (one, one, two, three), (one, two, "sR"), (one, two, "rsr"),
+            (one, two, three, "rsr"),
             ("",) + self.words, (one, two, "ss"), (one, two, "x"), (one, two, None), (one, two, 0), (one, two, ["rs"]),
             list(self.words), "".join(self.words), None, {}, (self.words,),
         ]:
@@ -93,7 +94,8 @@ class FiniteLists(ListCase):
         dear = (one[0] + (("r", Q, Q, ("step", 1, 1)),), one[1])
         unused = (one[0] + (("", P, P, ("stay",)),), one[1])
         for derivations, expected in [
-            ((two, one, three), False), ((one, one, three), False), ((one, two), False), ((one, two, three, three), False),
+            ((two, one, three), False), ((one, one, three), False), ((one, two), False),
+            ((one, two, three, three), False),
             ([one, two, three], False), ((one, two, None), False), ((one, two, list(three)), False), (None, False),
             ((dear, two, three), False), ((unused, two, three), True), ((), False), ((one, two, ((), ())), False),
         ]:
@@ -118,7 +120,8 @@ class FiniteLists(ListCase):
 
     def test_more_dead_pairs(self):
         for pair, expected in [
-            (("s", P), False), (("r", P), False), (("start", P), False), (("start", T), False), (("start", (4, 1)), False),
+            (("s", P), False), (("r", P), False), (("start", P), False), (("start", T), False),
+            (("start", (4, 1)), False),
             (("s", Q), False), (("r", Q), False), (("first", T), False), (("", T), False), ((None, T), False),
             (("s", (-1, 3)), False), (("s", (9, 1)), False), (("s", (-2, 0)), False), (("s", (-1, True)), False),
             (("s", (4, True)), False), (("s", None), False), (("s",), False), (("s", T, T), False), (["s", T], False),
@@ -280,7 +283,8 @@ class FiniteListsOfValues(ListCase):
             self.assert_for(part, bool(is_list_verdict(part, verdict)), verdict)
             needed += not is_list_verdict(part, verdict)
         self.assertGreater(needed, 0)
-        for mark, state in itertools.product(["start", "first", "s", "r", "R", "", None], [P, Q, (0, 1), (-3, 1), (-2, 0)]):
+        for mark, state in itertools.product(["start", "first", "s", "r", "R", "", None],
+            [P, Q, (0, 1), (-3, 1), (-2, 0)]):
             verdict = ("finite", words, (derivations, table, dead + ((mark, state),)))
             self.assert_for(part, bool(is_list_verdict(part, verdict)), verdict)
 
@@ -323,7 +327,8 @@ class EndlessSets(ListCase):
         self.assert_for(self.part, True, verdict)
         _, words, (middle, derivations) = verdict
         steps = derivations[0][0]
-        twice = ("endless", ("srs", "rsrs", "rsR"), (Q, ((steps, (0, 1, 2)), (steps, (1, 2, 1, 2)), (steps, (1, 2, 3)))))
+        twice = ("endless", ("srs", "rsrs", "rsR"), (Q, ((steps, (0, 1, 2)), (steps, (1, 2, 1, 2)),
+                    (steps, (1, 2, 3)))))
         self.assert_for(self.part, True, twice)
         inner = ("endless", ("sr", "sr", "sR"), ((1, 1), ((steps, (0, 1)), (steps, (2, 1)), (steps, (2, 3)))))
         self.assert_for(self.part, True, inner)
@@ -334,7 +339,8 @@ class EndlessSets(ListCase):
         _, words, evidence = self.hand_made()
         u, v, w = words
         for other in [
-            ("", v, w), (u, "", w), (u, v, ""), (u + v, v, w), (u, v + v, w), (u, v, v + w), (v, u, w), (w, v, u), (u, w, v),
+            ("", v, w), (u, "", w), (u, v, ""), (u + v, v, w), (u, v + v, w), (u, v, v + w), (v, u, w), (w, v, u),
+            (u, w, v),
             ("srs", v, w), (u, "sr", w), (u, "Rs", w), (u, v, "r"), (u, v, "Rs"), (u, v), (u, v, w, w), list(words),
             (None, v, w), (u, 0, w), (u, v, ["R"]), "srsR", None, (u, v, "x"), (("s",), v, w), (u, True, w),
         ]:
@@ -362,7 +368,8 @@ class EndlessSets(ListCase):
         # Each time round does something, but s at the end of v meets s at its beginning.
         machine = machine_with(2, (0, 0, "s", 1), (0, 0, "r", 1), (0, 1, "", 0))
         part = ("moves", machine, 0, 0)
-        steps = (("s", P, P, ("step", 0, 0)), ("r", P, P, ("step", 1, 0)), ("", P, P, ("stay",)), ("R", P, P, ("join", 1, 1)))
+        steps = (("s", P, P, ("step", 0, 0)), ("r", P, P, ("step", 1, 0)), ("", P, P, ("stay",)),
+            ("R", P, P, ("join", 1, 1)))
         of = {"s": 0, "r": 1, "R": 3}
 
         def verdict(u, v, w):
@@ -370,9 +377,12 @@ class EndlessSets(ListCase):
             return ("endless", (u, v, w), (P, ways))
 
         for u, v, w, expected in [
-            ("", "s", "", False), ("", "srs", "", False), ("", "r", "", False), ("", "sr", "", True), ("r", "sr", "", True),
-            ("s", "sr", "", False), ("s", "rs", "s", False), ("s", "rs", "", True), ("", "rs", "R", True), ("", "sr", "R", False),
-            ("", "sr", "s", True), ("s", "rs", "r", True), ("r", "sR", "s", True), ("", "ss", "", False), ("", "rsr", "", False),
+            ("", "s", "", False), ("", "srs", "", False), ("", "r", "", False), ("", "sr", "", True),
+            ("r", "sr", "", True),
+            ("s", "sr", "", False), ("s", "rs", "s", False), ("s", "rs", "", True), ("", "rs", "R", True),
+            ("", "sr", "R", False),
+            ("", "sr", "s", True), ("s", "rs", "r", True), ("r", "sR", "s", True), ("", "ss", "", False),
+            ("", "rsr", "", False),
             ("r", "sr", "sr", True), ("", "rsR", "s", False), ("R", "srsR", "s", True), ("r", "s", "R", False),
         ]:
             self.assert_for(part, expected, verdict(u, v, w))
@@ -389,12 +399,14 @@ class EndlessSets(ListCase):
     def test_other_derivations(self):
         _, words, (middle, (one, two, three)) = self.hand_made()
         for derivations in [
-            (one, two), (one, two, three, three), (two, one, three), (one, three, two), (three, two, one), (one, one, one),
+            (one, two), (one, two, three, three), (two, one, three), (one, three, two), (three, two, one),
+            (one, one, one),
             [one, two, three], (one, two, None), (one, list(two), three), None, (), (one, two, ((), ())),
             (one, (two[0], two[1][::-1]), three), (one, (two[0] + (None,), two[1]), three),
         ]:
             self.assert_for(self.part, False, ("endless", words, (middle, derivations)))
-        for evidence in [None, (), (middle,), (middle, (one, two, three), ()), [middle, (one, two, three)], (one, two, three)]:
+        for evidence in [None, (), (middle,), (middle, (one, two, three), ()), [middle, (one, two, three)],
+            (one, two, three)]:
             self.assert_for(self.part, False, ("endless", words, evidence))
 
     def test_other_sets_and_kinds(self):
@@ -404,7 +416,8 @@ class EndlessSets(ListCase):
             ("moves", Machine(3), 0, 2), ("values", self.machine, 0, (1, 0), 2),
         ]:
             self.assert_for(part, False, verdict)
-        for other in [verdict[:2], verdict + ((),), list(verdict), ("finite",) + verdict[1:], ("Endless",) + verdict[1:]]:
+        for other in [verdict[:2], verdict + ((),), list(verdict), ("finite",) + verdict[1:],
+            ("Endless",) + verdict[1:]]:
             self.assert_for(self.part, False, other)
 
     def test_after_edits_and_back(self):
@@ -425,13 +438,16 @@ class EndlessSets(ListCase):
         items = (
             ("s", start, P, ("step", -4, 0)), ("r", P, (0, 1), ("step", 0, 0)), ("s", (0, 1), P, ("step", 0, 1)),
             ("R", P, (1, 1), ("step", 1, 0)), ("s", (1, 1), P, ("step", 1, 1)), ("", P, P, ("stay",)),
-            ("s", start, (-3, 1), ("step", -3, 0)), ("R", (-3, 1), start, ("step", -3, 1)), ("", start, start, ("stay",)),
+            ("s", start, (-3, 1), ("step", -3, 0)), ("R", (-3, 1), start, ("step", -3, 1)),
+            ("", start, start, ("stay",)),
         )
         self.assert_for(part, True, ("endless", ("s", "rs", ""), (P, ((items, (0,)), (items, (1, 2)), (items, (5,))))))
-        self.assert_for(part, True, ("endless", ("srs", "Rs", ""), (P, ((items, (0, 1, 2)), (items, (3, 4)), (items, (5,))))))
+        self.assert_for(part, True, ("endless", ("srs", "Rs", ""), (P, ((items, (0, 1, 2)), (items, (3, 4)),
+                        (items, (5,))))))
         self.assert_for(part, False, ("endless", ("s", "Rs", ""), (P, ((items, (0,)), (items, (3, 4)), (items, (5,))))))
         # u v v w is a value word, but u w is none.
-        self.assert_for(part, False, ("endless", ("s", "rs", "Rs"), (P, ((items, (0,)), (items, (1, 2)), (items, (3, 4))))))
+        self.assert_for(part, False, ("endless", ("s", "rs", "Rs"), (P,
+                    ((items, (0,)), (items, (1, 2)), (items, (3, 4))))))
         around = ("endless", ("", "sR", "s"), (start, ((items, (8,)), (items, (6, 7)), (items, (0,)))))
         self.assert_for(part, False, around)
 
@@ -440,7 +456,8 @@ class AllKinds(ListCase):
     def test_arbitrary_values(self):
         machine = machine_with(2, (0, 1, "s", 1), (1, 1, "rs", 1))
         for part in [
-            ("moves", machine, 0, 0), ("moves", machine, 0, 1), ("moves", machine, 1, 0), ("values", machine, 0, (1, 0), 0),
+            ("moves", machine, 0, 0), ("moves", machine, 0, 1), ("moves", machine, 1, 0),
+            ("values", machine, 0, (1, 0), 0),
             ("values", machine, 0, (1, 2), 1),
         ]:
             self.assert_only_false(lambda near: check_list(part, near), [machine])
@@ -452,8 +469,10 @@ class AllKinds(ListCase):
             deep = (deep, [deep], {"a": deep}) if len(repr(deep)) < 3000 else (deep,)
         stay = ((("", P, P, ("stay",)),), (0,))
         for value in [
-            deep, ("finite", deep, deep), ("finite", ("s",) * 9000, ((stay,) * 9000, {}, ())), ("endless", deep, (P, deep)),
-            ("endless", ("sr" * 9000, "sr" * 9000, "s"), (P, (stay, stay, stay))), ("finite", (), ((), {}, (("s", P),) * 9000)),
+            deep, ("finite", deep, deep), ("finite", ("s",) * 9000, ((stay,) * 9000, {}, ())),
+            ("endless", deep, (P, deep)),
+            ("endless", ("sr" * 9000, "sr" * 9000, "s"), (P, (stay, stay, stay))),
+            ("finite", (), ((), {}, (("s", P),) * 9000)),
             ("finite", ("sr" * 9000,), ((stay,), {("", P, P): 0}, ())),
         ]:
             self.assert_for(part, False, value)
@@ -475,9 +494,33 @@ class AllKinds(ListCase):
                 )
         self.assertGreater(min(asked.values()), 20)
 
+    def test_every_part_of_a_list(self):
+        # Whatever words are left out with their derivations, the list is no longer the whole one.
+        asked = 0
+        machines = some_machines(60, places=2, edges=5, longest=2, seed=55) + [
+            machine_with(2, (0, 1, first, 1), (0, 1, second, 1), (0, 1, third, 1))
+            for first, second, third in itertools.combinations(["", "s", "r", "R", "sr", "rs", "sR", "srs"], 3)
+        ]
+        for machine in machines:
+            for part in [("moves", machine, 0, len(machine) - 1), ("values", machine, 0, (0, 1), len(machine) - 1)]:
+                try:
+                    kind, words, evidence = list_set(part, limit=6)
+                except LimitExceeded:
+                    continue
+                if kind == "endless":
+                    continue
+                derivations, table, dead = evidence
+                for count in range(len(words)):
+                    for kept in itertools.combinations(range(len(words)), count):
+                        some, ways = tuple(words[at] for at in kept), tuple(derivations[at] for at in kept)
+                        self.assertIs(check_list(part, ("finite", some, (ways, table, dead))), False)
+                        asked += 1
+        self.assertGreater(asked, 800)
+
     def test_evidence_near_verdicts(self):
         # Only the tuples of dead pairs and of words are varied here.
-        draw_from = [("s", P), ("r", P), ("R", Q), ("s", Q), ("first", P), ("start", P), ("s", T), ("r", (0, 1)), ("s", (0, 1))]
+        draw_from = [("s", P), ("r", P), ("R", Q), ("s", Q), ("first", P), ("start", P), ("s", T), ("r", (0, 1)),
+            ("s", (0, 1))]
         for at, machine in enumerate(some_machines(25, places=3, edges=4, longest=3, seed=53)):
             for part in [("moves", machine, 0, 0), ("values", machine, 0, (0, 1), 0)]:
                 try:

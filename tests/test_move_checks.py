@@ -176,7 +176,8 @@ class Checks(QuestionCase):
         row = tuple(("", P, P, ("stay",)) for _ in range(4000))
         table = {("s", P, (-1, at)): at for at in range(5000)}
         for value in [
-            deep, ("barred", deep), ("reached", 10**59, deep, deep), ("barred", table), ("reached", 2, (row, (0,)), table),
+            deep, ("barred", deep), ("reached", 10**59, deep, deep), ("barred", table),
+            ("reached", 2, (row, (0,)), table),
             tuple(range(19999)), ("reached", 2, (tuple(range(9000)), tuple(range(9000))), {}),
         ]:
             self.assert_for(False, "rs", value)

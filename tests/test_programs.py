@@ -39,7 +39,8 @@ class GoodPrograms(ProgramCase):
     def test_each_form(self):
         for program in [
             MOVE, ("move", "", 0), ("move", "srsrsrsr", 9), row(), row(MOVE), row(MOVE, MOVE), choice(), choice(MOVE),
-            choice(MOVE, NOTHING), ("repeat", MOVE), ("repeat", NOTHING), ("repeat", choice()), ("repeat", ("repeat", MOVE)),
+            choice(MOVE, NOTHING), ("repeat", MOVE), ("repeat", NOTHING), ("repeat", choice()),
+            ("repeat", ("repeat", MOVE)),
         ]:
             self.assert_good(program, {})
             self.assert_good(program, {"a": program})
@@ -54,7 +55,8 @@ class GoodPrograms(ProgramCase):
         self.assert_good(MOVE, many)
 
     def test_parts_that_are_used_several_times(self):
-        parts = {"a": MOVE, "b": row(("part", "a"), ("part", "a")), "c": choice(("part", "b"), ("part", "a"), ("part", "b"))}
+        parts = {"a": MOVE, "b": row(("part", "a"), ("part", "a")), "c": choice(("part", "b"), ("part", "a"),
+                ("part", "b"))}
         self.assert_good(("part", "c"), parts)
         self.assert_good(row(("part", "a"), ("part", "c")), parts)
         self.assert_good(("repeat", ("part", "b")), parts)
@@ -63,7 +65,8 @@ class GoodPrograms(ProgramCase):
 class Faults(ProgramCase):
     def test_parts_that_are_no_dict_of_strings(self):
         for parts in [
-            None, (), [], 0, True, "a", (("a", MOVE),), [("a", MOVE)], {0: MOVE}, {None: MOVE}, {True: MOVE}, {("a",): MOVE},
+            None, (), [], 0, True, "a", (("a", MOVE),), [("a", MOVE)], {0: MOVE}, {None: MOVE}, {True: MOVE},
+            {("a",): MOVE},
             {"a": MOVE, 1: MOVE}, {1: 2, "a": ("part", "b")},
         ]:
             self.assert_fault((), MOVE, parts)
@@ -74,11 +77,13 @@ class Faults(ProgramCase):
         wrong = [value for value in STRANGE_VALUES] + [
             ("move",), ("move", "rs"), ("move", "rs", 1, 1), ["move", "rs", 1], ("Move", "rs", 1), (None, "rs", 1),
             (("move",), "rs", 1), ("move", "rs", 10), ("move", "rs", -1), ("move", "rs", True), ("move", "rs", None),
-            ("move", "rs", "1"), ("move", "rs", 10**59), ("move", "ss", 1), ("move", "x", 1), ("move", None, 1), ("move", ["rs"], 1),
+            ("move", "rs", "1"), ("move", "rs", 10**59), ("move", "ss", 1), ("move", "x", 1), ("move", None, 1),
+            ("move", ["rs"], 1),
             ("move", "srsrsrsrs", 1), ("move", "rr", 1), ("move", 1, "rs"), ("row",), ("row", [MOVE]), ("row", None),
             ("row", (), ()), ("row", {}), ("row", MOVE, MOVE), ("choice",), ("choice", [MOVE]), ("choice", "rs"),
             ("choice", (MOVE,), 1), ("repeat",), ("repeat", MOVE, MOVE), ("part",), ("part", "a", "a"), ("part", None),
-            ("part", ["a"]), ("part", 0), ("part", ("a",)), ("part", {}), ("part", True), ("part", "x"), ("part", "A"), ("other", MOVE),
+            ("part", ["a"]), ("part", 0), ("part", ("a",)), ("part", {}), ("part", True), ("part", "x"), ("part", "A"),
+            ("other", MOVE),
             ("", ()), ("moves", "rs", 1), ["row", ()], {"row": ()}, ("rows", ()), "row",
         ]
         parts = {"a": MOVE, "b": choice(MOVE)}
@@ -225,7 +230,8 @@ class Limits(ProgramCase):
             self.assert_good(make(*[("part", "a")] * 4), {"a": make(MOVE, MOVE)})
 
     def test_8_and_9_deep(self):
-        for ground, depth in [(MOVE, 1), (NOTHING, 1), (choice(), 1), (row(MOVE), 2), (("part", "a"), 2), (("part", "b"), 3)]:
+        for ground, depth in [(MOVE, 1), (NOTHING, 1), (choice(), 1), (row(MOVE), 2), (("part", "a"), 2),
+            (("part", "b"), 3)]:
             parts = {"a": NOTHING, "b": ("repeat", MOVE)}
             for make in (row, choice, lambda inner: ("repeat", inner), lambda inner: row(NOTHING, inner)):
                 program = ground
@@ -251,7 +257,8 @@ class Limits(ProgramCase):
                 self.assert_refuses(InvalidProgram, "path", (), require_program, ("part", "part 59"), parts)
                 self.assert_refuses(InvalidProgram, "path", (), compile_program, ("part", "part 59"), parts)
                 self.assertIsNone(require_program(("part", "part 0"), parts))
-                self.assertIsNone(require_program(("part", "part 1"), {**parts, "part 1": row(*[("part", "part 0")] * 4)}))
+                self.assertIsNone(require_program(("part", "part 1"), {**parts,
+                            "part 1": row(*[("part", "part 0")] * 4)}))
             with within(2):
                 path = tuple(name for at in range(59, 0, -1) for name in (f"part {at}", 0)) + ("part 0",)
                 self.assert_refuses(

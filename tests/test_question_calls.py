@@ -53,7 +53,8 @@ CALLS = [
     ),
     (
         valuequestions.check_value,
-        [("machine", MACHINE), ("start", 0), ("value", (0, 1)), ("place", 1), ("target", (1, 1)), ("verdict", HELD)], {}, True,
+        [("machine", MACHINE), ("start", 0), ("value", (0, 1)), ("place", 1), ("target", (1, 1)), ("verdict", HELD)],
+        {}, True,
     ),
     (sets.list_set, [("part", MOVES)], {"limit": 5}, LISTED),
     (sets.list_set, [("part", VALUES)], {"limit": 1}, ("finite", ("srs",))),
@@ -108,7 +109,8 @@ def walker():
 def begins_so(found, result):
     """A verdict may have another certificate; all other results are equal."""
     found = shown(found)
-    if isinstance(result, tuple) and result and result[0] in ("reached", "barred", "endless", "apart", "parted", "finite"):
+    if isinstance(result, tuple) and result and result[0] in ("reached", "barred", "endless", "apart", "parted",
+        "finite"):
         length = {"reached": 2, "barred": 1, "endless": 1, "apart": 1, "parted": 2, "finite": 2}[result[0]]
         return found[:length] == result[:length]
     return found == result and type(found) is type(result)
@@ -117,7 +119,8 @@ def begins_so(found, result):
 def seen(values):
     """All of some arguments that could be changed."""
     machines = [MACHINE, LOOP]
-    return copy.deepcopy([value for value in values if not isinstance(value, Machine)]), [snapshot(machine) for machine in machines]
+    return copy.deepcopy([value for value in values if not isinstance(value,
+                Machine)]), [snapshot(machine) for machine in machines]
 
 
 class Calls(unittest.TestCase):

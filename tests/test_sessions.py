@@ -153,7 +153,8 @@ class Editing(WalkerCase):
     def test_as_for_a_machine(self):
         machine = machine_with(3, (0, 1, "rs", 2))
         walker = Walker(machine, 0, (0, 1))
-        for call in ["add_edge(1, 2, 'sR', 9)", "add_edge(2, 2, '', 0)", "reroute_edge(1, 0, 0)", "remove_edge(0)", "add_edge(0, 1, 's', 1)"]:
+        for call in ["add_edge(1, 2, 'sR', 9)", "add_edge(2, 2, '', 0)", "reroute_edge(1, 0, 0)", "remove_edge(0)",
+            "add_edge(0, 1, 's', 1)"]:
             done = [eval(f"thing.{call}", {"thing": thing}) for thing in (machine, walker)]
             self.assertEqual(done[0], done[1])
             self.assertEqual(list(walker.edges().items()), list(machine.edges().items()))
@@ -284,14 +285,17 @@ class Asking(WalkerCase):
         walker = Walker(two_places(), 0, (0, 1))
         long = "rs" * 31
         for args, error, name, kept in [
-            ((5, "x"), UnknownPlace, "place", 5), ((-1, "rs"), UnknownPlace, "place", -1), ((1, "x"), NotAWord, "value", "x"),
-            ((1, ["rs"]), NotAWord, "value", ["rs"]), ((1, "ss"), NotReduced, "word", "ss"), ((1, long), LimitExceeded, "limit", 60),
+            ((5, "x"), UnknownPlace, "place", 5), ((-1, "rs"), UnknownPlace, "place", -1),
+            ((1, "x"), NotAWord, "value", "x"),
+            ((1, ["rs"]), NotAWord, "value", ["rs"]), ((1, "ss"), NotReduced, "word", "ss"),
+            ((1, long), LimitExceeded, "limit", 60),
             ((5, long), UnknownPlace, "place", 5),
         ]:
             for call in (walker.ask_move, walker.record_move):
                 self.assert_refused(walker, error, name, kept, call, *args)
         for args, error, name, kept in [
-            ((5, "v"), UnknownPlace, "place", 5), ((1, "v"), NotAValue, "value", "v"), ((1, (2, 2)), NotAValue, "value", (2, 2)),
+            ((5, "v"), UnknownPlace, "place", 5), ((1, "v"), NotAValue, "value", "v"),
+            ((1, (2, 2)), NotAValue, "value", (2, 2)),
             ((1, (31, 1)), LimitExceeded, "limit", 60), ((5, (31, 1)), UnknownPlace, "place", 5),
         ]:
             for call in (walker.ask_value, walker.record_value):
@@ -318,9 +322,11 @@ class Records(WalkerCase):
 
     def test_questions_and_verdicts(self):
         walker = Walker(two_places(), 0, (0, 1))
-        asked = [walker.ask_move(1, "rs"), walker.ask_move(1, "s"), walker.ask_value(1, (1, 1)), walker.ask_value(0, (5, 1))]
+        asked = [walker.ask_move(1, "rs"), walker.ask_move(1, "s"), walker.ask_value(1, (1, 1)),
+            walker.ask_value(0, (5, 1))]
         numbers = [
-            walker.record_move(1, "rs"), walker.record_move(1, "s"), walker.record_value(1, (1, 1)), walker.record_value(0, (5, 1)),
+            walker.record_move(1, "rs"), walker.record_move(1, "s"), walker.record_value(1, (1, 1)),
+            walker.record_value(0, (5, 1)),
         ]
         self.assertEqual(numbers, [0, 1, 2, 3])
         walker.take(0)
@@ -382,11 +388,14 @@ class Halves(WalkerCase):
         walker = Walker(two_places(), 0, (0, 1))
         reached, barred = walker.record_move(1, "rs"), walker.record_move(1, "rsrs")
         value, none = walker.record_value(1, (1, 1)), walker.record_value(1, (2, 1))
-        self.assertEqual([walker.halves(number) for number in (reached, barred, value, none)], [(True, True), (None, True)] * 2)
+        self.assertEqual([walker.halves(number) for number in (reached, barred, value, none)],
+            [(True, True), (None, True)] * 2)
         idle = walker.add_edge(0, 0, "", 5)
-        self.assertEqual([walker.halves(number) for number in (reached, barred, value, none)], [(True, True), (None, True)] * 2)
+        self.assertEqual([walker.halves(number) for number in (reached, barred, value, none)],
+            [(True, True), (None, True)] * 2)
         cheap = walker.add_edge(0, 1, "rs", 1)
-        self.assertEqual([walker.halves(number) for number in (reached, barred, value, none)], [(True, False), (None, False)] * 2)
+        self.assertEqual([walker.halves(number) for number in (reached, barred, value, none)],
+            [(True, False), (None, False)] * 2)
         walker.remove_edge(cheap)
         # A further edge may be as dear as it will: the table knows nothing of its inner states.
         dear = walker.add_edge(0, 1, "rs", 9)
@@ -394,7 +403,8 @@ class Halves(WalkerCase):
         walker.remove_edge(dear)
         walker.remove_edge(idle)
         walker.remove_edge(0)
-        self.assertEqual([walker.halves(number) for number in (reached, barred, value, none)], [(False, True), (None, True)] * 2)
+        self.assertEqual([walker.halves(number) for number in (reached, barred, value, none)],
+            [(False, True), (None, True)] * 2)
         walker.add_edge(0, 1, "rs", 2)
         # The derivation names the edge that is gone.
         self.assertEqual(walker.halves(reached)[0], False)
@@ -447,7 +457,8 @@ class Halves(WalkerCase):
                 if action == 0:
                     try:
                         self.assertEqual(
-                            walker.add_edge(draw.randrange(places), draw.randrange(places), draw.choice(words), draw.randint(0, 3)),
+                            walker.add_edge(draw.randrange(places), draw.randrange(places), draw.choice(words),
+                                draw.randint(0, 3)),
                             following,
                         )
                         following += 1
@@ -479,7 +490,8 @@ class Halves(WalkerCase):
                     told[halves] = told.get(halves, 0) + 1
                     if draw.random() < 0.1:
                         self.assertEqual(walker.recorded(number), (question, verdict))
-        self.assertEqual(set(told), {(None, True), (None, False), (True, True), (True, False), (False, True), (False, False)})
+        self.assertEqual(set(told), {(None, True), (None, False), (True, True), (True, False), (False, True),
+                (False, False)})
         self.assertGreater(min(told.values()), 20)
 
     def test_adding_ends_no_first_half_and_removing_no_second(self):

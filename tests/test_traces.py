@@ -66,12 +66,14 @@ class Traces(TraceCase):
             (("repeat", ONE), ("repeat", (WAY,)), "s", 2, (0, 1, 2)),
             (("repeat", ONE), ("repeat", (WAY, WAY)), "", 4, (0, 1, 1, 2)),
             (("repeat", choice()), ("repeat", ()), "", 0, (0, 1)),
-            (("repeat", ("repeat", ONE)), ("repeat", (("repeat", (WAY,)), ("repeat", ()))), "s", 2, (0, 1, 2, 3, 1, 3, 4)),
+            (("repeat", ("repeat", ONE)), ("repeat", (("repeat", (WAY,)), ("repeat", ()))), "s", 2,
+                (0, 1, 2, 3, 1, 3, 4)),
         ]:
             self.assert_trace(program, {}, trace, word, cost, route)
             self.assert_trace(("part", "a"), {"a": program}, ("part", trace), word, cost, route)
             self.assert_trace(
-                ("part", "b"), {"a": program, "b": choice(("part", "a"))}, ("part", ("choice", 0, ("part", trace))), word, cost, route
+                ("part", "b"), {"a": program, "b": choice(("part", "a"))}, ("part", ("choice", 0, ("part", trace))),
+                word, cost, route
             )
 
     def test_equal_programs_beside_each_other(self):
@@ -89,7 +91,8 @@ class Traces(TraceCase):
             ((0, 2, 3, 4, 4, 5, 6), ("repeat", (("row", (("choice", 1, WAY), ("repeat", (WAY, WAY)))),))),
             (
                 (0, 2, 3, 5, 1, 3, 4, 5, 6),
-                ("repeat", (("row", (("choice", 1, WAY), ("repeat", ()))), ("row", (("choice", 0, WAY), ("repeat", (WAY,)))))),
+                ("repeat", (("row", (("choice", 1, WAY), ("repeat", ()))),
+                        ("row", (("choice", 0, WAY), ("repeat", (WAY,)))))),
             ),
         ]:
             self.assertEqual(trace_of_route(program, {}, route), trace)
@@ -188,7 +191,8 @@ class Routes(TraceCase):
         program = row(MOVE, ("repeat", ONE))
         self.assert_route(program, {}, (0, 1, 2, 3))
         for route in [
-            (), (0,), (0, 1), (0, 1, 2), (1, 3), (3,), (0, 1, 3, 3), (0, 2, 3), (0, 1, 2, 3, 0), (0, 0, 1, 3), (0, 1, 4), (-4, 1, 3),
+            (), (0,), (0, 1), (0, 1, 2), (1, 3), (3,), (0, 1, 3, 3), (0, 2, 3), (0, 1, 2, 3, 0), (0, 0, 1, 3),
+            (0, 1, 4), (-4, 1, 3),
             (0, 1, -1), (10**59,), (0, 1, 3, 10**59), (4,), (0, 1, 2, 2, 2),
         ]:
             self.assertIsNone(trace_of_route(program, {}, route))

@@ -64,7 +64,8 @@ class Answers(ValueCase):
     def test_infinity_0_and_negative_values(self):
         # s takes infinity to 0 and back, and x to -1/x.
         machine = machine_with(2, (0, 1, "s", 3))
-        for value, target in [(INFINITY, (0, 1)), ((0, 1), INFINITY), ((1, 1), (-1, 1)), ((-2, 1), (1, 2)), ((2, 1), (-1, 2))]:
+        for value, target in [(INFINITY, (0, 1)), ((0, 1), INFINITY), ((1, 1), (-1, 1)), ((-2, 1), (1, 2)),
+            ((2, 1), (-1, 2))]:
             self.assert_verdict(3, machine, 0, value, 1, target)
             self.assert_verdict(None, machine, 0, value, 1, value)
         machine = machine_with(1, (0, 0, "sR", 1))
@@ -139,7 +140,8 @@ class Answers(ValueCase):
 
 class Limits(ValueCase):
     def test_values_at_the_limits(self):
-        self.assertEqual([len(value_word(value, limit=99)) for value in (TEN, ELEVEN, SIXTY, SIXTY_ONE)], [10, 11, 60, 61])
+        self.assertEqual([len(value_word(value, limit=99)) for value in (TEN, ELEVEN, SIXTY, SIXTY_ONE)],
+            [10, 11, 60, 61])
         machine = machine_with(1, (0, 0, "sr", 1), (0, 0, "Rs", 1))
         self.assert_verdict(25, machine, 0, TEN, 0, SIXTY)
         self.assert_verdict(5, machine, 0, TEN, 0, INFINITY)
@@ -153,7 +155,8 @@ class Limits(ValueCase):
     def test_full_machines_without_delay(self):
         for seed in range(3):
             machine = full_machine(seed)
-            for value, target in [(TEN, SIXTY), (INFINITY, TEN), (TEN, (0, 1)), (value_of("srsRsrsRsr"), value_of("sRsr"))]:
+            for value, target in [(TEN, SIXTY), (INFINITY, TEN), (TEN, (0, 1)),
+                (value_of("srsRsrsRsr"), value_of("sRsr"))]:
                 with within(3):
                     verdict = ask_value(machine, 3, value, 9, target)
                     self.assertIs(check_value(machine, 3, value, 9, target, verdict), True)
